@@ -1,0 +1,1 @@
+"""Turnings of a row of seats."""
