@@ -1,66 +1,20 @@
-import inspect
 import itertools
 import unittest
 
 from seatturn.errors import BadTurning, OtherLength, SeatError
 from seatturn.turnings import joined, seated, turned_back
-
-BAD = (
-    ("a number twice", (0, 1, 1)),
-    ("all numbers alike", (0, 0, 0)),
-    ("one below nought", (0, -1, 1)),
-    ("below nought, though an index could mean it", (0, 1, -1)),
-    ("one not below the count", (0, 1, 3)),
-    ("counted from one", (1, 2, 3)),
-    ("one seat, not nought", (1,)),
-    ("one seat, below nought", (-1,)),
-    ("the sum and the range are right", (0, 0, 3, 3)),
-    ("a very long number", (0, 10 ** 5000)),
-    ("five hundred seats, one twice", tuple(range(499)) + (0,)),
-)
-
-
-def turnings(count):
-    return list(itertools.permutations(range(count)))
-
-
-def rest(count):
-    return tuple(range(count))
-
-
-def rotation(count, by):
-    return tuple((seat + by) % count for seat in range(count))
+from tests.helper import BAD, MANY, Checked, rest, rotation, shuffle_of, tuples_near_turnings, turnings
 
 
 def guests(count):
     return [f"guest {seat}" for seat in range(count)]
 
 
-def shuffle_of(count, factor):
-    """A turning that is no rotation, where factor and count share no divisor."""
-    return tuple(seat * factor % count for seat in range(count))
-
-
-class Checked(unittest.TestCase):
-    def assert_tuple(self, answer, wanted):
-        self.assertIs(type(answer), tuple)
-        self.assertEqual(answer, wanted)
-
-    def assert_list(self, answer, wanted):
-        self.assertIs(type(answer), list)
-        self.assertEqual(answer, wanted)
-
-    def assert_refused(self, refusal, work, *given):
-        with self.assertRaises(SeatError) as caught:
-            work(*given)
-        self.assertIs(type(caught.exception), refusal)
-
-
-class Interface(unittest.TestCase):
+class Interface(Checked):
     def test_names_of_the_arguments(self):
-        for work, names in ((joined, ["one", "two"]), (turned_back, ["turning"]), (seated, ["turning", "row"])):
-            with self.subTest(work=work.__name__):
-                self.assertEqual(list(inspect.signature(work).parameters), names)
+        self.assert_arguments(joined, ["one", "two"])
+        self.assert_arguments(turned_back, ["turning"])
+        self.assert_arguments(seated, ["turning", "row"])
 
     def test_arguments_by_name(self):
         self.assertEqual(joined(two=(0, 2, 1), one=(1, 0, 2)), (2, 0, 1))
@@ -70,17 +24,17 @@ class Interface(unittest.TestCase):
 
 class WhatATurningIs(Checked):
     def test_just_the_tuples_with_each_number_once_are_taken(self):
-        for count in range(5):
-            for given in itertools.product(range(-2, count + 2), repeat=count):
-                if sorted(given) == list(range(count)):
-                    turned_back(given)
-                    joined(given, given)
-                    seated(given, guests(count))
-                else:
-                    self.assert_refused(BadTurning, turned_back, given)
-                    self.assert_refused(BadTurning, joined, given, rest(count))
-                    self.assert_refused(BadTurning, joined, rest(count), given)
-                    self.assert_refused(BadTurning, seated, given, guests(count))
+        for given, right in tuples_near_turnings(4):
+            count = len(given)
+            if right:
+                turned_back(given)
+                joined(given, given)
+                seated(given, guests(count))
+            else:
+                self.assert_refused(BadTurning, turned_back, given)
+                self.assert_refused(BadTurning, joined, given, rest(count))
+                self.assert_refused(BadTurning, joined, rest(count), given)
+                self.assert_refused(BadTurning, seated, given, guests(count))
 
 
 class Joined(Checked):
@@ -239,22 +193,19 @@ class Seated(Checked):
 
 
 class ManySeats(Checked):
-    # Somewhat more than five hundred is not refused either.
-    COUNTS = (500, 501, 600)
-
     def test_joined(self):
-        for count in self.COUNTS:
+        for count in MANY:
             self.assert_tuple(joined(rotation(count, 1), rotation(count, count - 1)), rest(count))
             self.assert_tuple(joined(rotation(count, 7), rotation(count, 30)), rotation(count, 37))
 
     def test_turned_back(self):
-        for count in self.COUNTS:
+        for count in MANY:
             self.assert_tuple(turned_back(rotation(count, 7)), rotation(count, count - 7))
             turning = shuffle_of(count, 7)
             self.assert_tuple(joined(turning, turned_back(turning)), rest(count))
 
     def test_seated(self):
-        for count in self.COUNTS:
+        for count in MANY:
             row = guests(count)
             self.assert_list(seated(rotation(count, 1), row), row[-1:] + row[:-1])
             self.assert_list(seated(rest(count), row), guests(count))
